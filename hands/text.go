@@ -1,0 +1,101 @@
+package hands
+
+import (
+	"ephemerist/api"
+	"ephemerist/texts"
+)
+
+// Print returns the text of a sheet.
+func Print(s api.HandsSheet) (string, api.Errno) {
+	if !isSheet(s) {
+		return "", api.ErrArg
+	}
+	lines := []texts.Line{handsLine(s.Errors)}
+	for row := range rowsOf(s) {
+		var numbers rowLine
+		for _, column := range s.Columns {
+			numbers = append(numbers, column[row])
+		}
+		lines = append(lines, numbers)
+	}
+	return texts.Write(lines, checkModulus), api.OK
+}
+
+// Read returns the sheet of a text.
+func Read(text string) (api.HandsSheet, api.Errno) {
+	if len(text) > api.HandsText {
+		return api.HandsSheet{}, api.ErrLong
+	}
+	s, is := texts.Read(text, checkModulus, lineOf, sheetOf)
+	if !is {
+		return api.HandsSheet{}, api.ErrText
+	}
+	if !isSheet(s) {
+		return api.HandsSheet{}, api.ErrArg
+	}
+	return s, api.OK
+}
+
+// The words with which lines begin, in the order of the table words.
+const (
+	handsWord = iota
+	rowWord
+)
+
+var words = [...]string{"hands", "row"}
+
+const (
+	numberDigits = 3
+	checkModulus = 229
+)
+
+// handsLine is how many errors each hand has made at most.
+type handsLine []int
+
+// Text returns the line as it is written.
+func (l handsLine) Text() string { return texts.Numbers(words[handsWord], l...) }
+
+// rowLine is the numbers of all hands in a row.
+type rowLine []int
+
+// Text returns the line as it is written.
+func (l rowLine) Text() string { return texts.Numbers(words[rowWord], l...) }
+
+// lineOf returns the line of some words.
+func lineOf(parts []string) texts.Line {
+	switch parts[0] {
+	case words[handsWord]:
+		return handsLine(texts.Naturals(parts[1:], numberDigits))
+	case words[rowWord]:
+		return rowLine(texts.Integers(parts[1:], numberDigits))
+	}
+	texts.GiveUp()
+	return nil
+}
+
+// sheetOf returns the sheet that lines tell, whether or not it is as defined.
+func sheetOf(lines []texts.Line) api.HandsSheet {
+	var s api.HandsSheet
+	for i, l := range lines {
+		first := false
+		switch x := l.(type) {
+		case handsLine:
+			first = true
+			s.Errors, s.Columns = x, make([][]int, len(x))
+		case rowLine:
+			if len(x) != len(s.Columns) {
+				texts.GiveUp()
+			}
+			for hand, n := range x {
+				s.Columns[hand] = append(s.Columns[hand], n)
+			}
+		}
+		if first != (i == 0) {
+			texts.GiveUp()
+		}
+	}
+	if len(s.Columns) == 0 {
+		texts.GiveUp()
+	}
+	return s
+}

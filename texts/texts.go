@@ -1,0 +1,133 @@
+// Package texts has what the texts of all layers have in common: lines of
+// words with a single blank between two, decimal numbers, and a last line with
+// a CHECK of the lines before it.
+package texts
+
+import (
+	"strconv"
+	"strings"
+)
+
+// Line is a line of a text.
+type Line interface {
+	Text() string
+}
+
+const (
+	endWord     = "end"
+	checkDigits = 3
+)
+
+// noText is what a string that is no text gives up with.
+type noText struct{}
+
+// GiveUp leaves the call of Read that it is reached from: the string is no
+// text.
+func GiveUp() { panic(noText{}) }
+
+// Write returns the text of some lines, with the line of their CHECK after
+// them. The modulus is at most 1000.
+func Write(lines []Line, modulus int) string {
+	var written []string
+	for _, l := range lines {
+		written = append(written, l.Text())
+	}
+	written = append(written, endOf(written, modulus))
+	return strings.Join(written, "\n") + "\n"
+}
+
+// Read returns what the lines of a text make, each of which is made of its
+// words; it returns false if the string is no text.
+func Read[T any](text string, modulus int, line func(words []string) Line, whole func(lines []Line) T) (made T, is bool) {
+	defer func() {
+		if _, no := recover().(noText); no {
+			is = false
+		}
+	}()
+	var lines []Line
+	for _, words := range wordsOf(text, modulus) {
+		lines = append(lines, line(words))
+	}
+	return whole(lines), true
+}
+
+// wordsOf returns the words of all lines but the last one.
+func wordsOf(text string, modulus int) [][]string {
+	body, ended := strings.CutSuffix(text, "\n")
+	written := strings.Split(body, "\n")
+	last := len(written) - 1
+	if !ended || written[last] != endOf(written[:last], modulus) {
+		GiveUp()
+	}
+	var lines [][]string
+	for _, l := range written[:last] {
+		lines = append(lines, strings.Split(l, " "))
+	}
+	return lines
+}
+
+// endOf returns the last line, with the CHECK of the lines before it.
+func endOf(written []string, modulus int) string {
+	total := 0
+	for i, l := range written {
+		for at := range len(l) {
+			total += int(l[at]) * (at + 1) * (i + 1)
+		}
+	}
+	digits := strconv.Itoa(total % modulus)
+	return endWord + " " + strings.Repeat("0", checkDigits-len(digits)) + digits
+}
+
+// Numbers returns a line of a word and numbers.
+func Numbers(word string, numbers ...int) string {
+	for _, n := range numbers {
+		word += " " + strconv.Itoa(n)
+	}
+	return word
+}
+
+// Integers returns the numbers of some words, which can have a minus sign; of
+// words that are no numbers of at most so many digits it gives up.
+func Integers(words []string, digits int) []int {
+	return each(words, digits, integer)
+}
+
+// Naturals returns the numbers of some words, which have no sign; of words
+// that are no numbers of at most so many digits it gives up.
+func Naturals(words []string, digits int) []int {
+	return each(words, digits, natural)
+}
+
+func each(words []string, digits int, number func(word string, digits int) int) []int {
+	numbers := make([]int, len(words))
+	for i, w := range words {
+		numbers[i] = number(w, digits)
+	}
+	return numbers
+}
+
+func integer(word string, digits int) int {
+	size, minus := strings.CutPrefix(word, "-")
+	n := natural(size, digits)
+	if !minus {
+		return n
+	}
+	if n == 0 {
+		GiveUp()
+	}
+	return -n
+}
+
+func natural(word string, digits int) int {
+	if len(word) < 1 || len(word) > digits || len(word) > 1 && word[0] == '0' {
+		GiveUp()
+	}
+	n := 0
+	for _, d := range word {
+		if d < '0' || d > '9' {
+			GiveUp()
+		}
+		n = n*10 + int(d-'0')
+	}
+	return n
+}
