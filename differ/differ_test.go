@@ -346,7 +346,7 @@ func TestJoins(t *testing.T) {
 // P1.6: all sheets of a truth join; one number that is changed in one first row is noticed.
 func TestCutAndJoin(t *testing.T) {
 	plans(t, func(t *testing.T, d *dice, p api.DifferPlan) {
-		truth, size := d.truth(p), d.from(1, p.Rows)
+		truth, size := d.truth(p), d.From(1, p.Rows)
 		firsts, e := differ.Cut(p, truth, size)
 		if e != api.OK {
 			t.Fatal(p, truth, size, e)
@@ -365,8 +365,8 @@ func TestCutAndJoin(t *testing.T) {
 		if len(firsts) == 1 {
 			return
 		}
-		sheet := d.from(0, len(firsts)-1)
-		firsts[sheet][d.from(0, len(truth)-1)] += d.from(1, 9)
+		sheet := d.From(0, len(firsts)-1)
+		firsts[sheet][d.From(0, len(truth)-1)] += d.From(1, 9)
 		want := []int{}
 		for i := 1; i < len(firsts); i++ {
 			if i == sheet || i == sheet+1 && !slices.Equal(firsts[i], stateOf(firsts[sheet], size)) {

@@ -6,12 +6,13 @@ import (
 
 	"ephemerist/api"
 	"ephemerist/differ"
+	"ephemerist/trial"
 )
 
 // This file has a second way to each result: all truths are written out, and
 // values are sums of binomial coefficients times the numbers of the truth.
 
-func list(n ...int) []int { return n }
+func list(n ...int) []int { return trial.List(n...) }
 
 func span(low, high int) api.Span { return api.Span{Low: low, High: high} }
 
@@ -34,20 +35,14 @@ func notes(n ...int) []api.DifferSeen {
 	return seen
 }
 
-// dice gives the same numbers in each run.
-type dice struct{ state uint64 }
-
-func (d *dice) from(low, high int) int {
-	d.state = d.state*6364136223846793005 + 1442695040888963407
-	return low + int(d.state>>33)%(high-low+1)
-}
+type dice struct{ trial.Dice }
 
 func (d *dice) plan() api.DifferPlan {
-	p := api.DifferPlan{Rows: d.from(1, api.DifferRows), Guard: d.from(0, api.DifferGuard)}
+	p := api.DifferPlan{Rows: d.From(1, api.DifferRows), Guard: d.From(0, api.DifferGuard)}
 	edges := list(-99999, 99999-api.DifferWide, -1000, -55, -8, -3, 0, 7, 495, 1048)
-	for range d.from(1, api.DifferStarts) {
-		low := edges[d.from(0, len(edges)-1)] + d.from(0, 3)
-		wide := min(d.from(0, 3)*d.from(0, 2), api.DifferMost-low)
+	for range d.From(1, api.DifferStarts) {
+		low := edges[d.From(0, len(edges)-1)] + d.From(0, 3)
+		wide := min(d.From(0, 3)*d.From(0, 2), api.DifferMost-low)
 		p.Starts = append(p.Starts, span(low, low+wide))
 	}
 	return p
@@ -56,7 +51,7 @@ func (d *dice) plan() api.DifferPlan {
 func (d *dice) truth(p api.DifferPlan) []int {
 	var truth []int
 	for _, s := range p.Starts {
-		truth = append(truth, d.from(s.Low, s.High))
+		truth = append(truth, d.From(s.Low, s.High))
 	}
 	return truth
 }
@@ -65,12 +60,12 @@ func (d *dice) truth(p api.DifferPlan) []int {
 func (d *dice) notes(p api.DifferPlan) []api.DifferSeen {
 	values := tableOf(p, d.truth(p))
 	var seen []api.DifferSeen
-	for range d.from(0, api.DifferSeens) {
-		row := d.from(0, p.Rows-1)
+	for range d.From(0, api.DifferSeens) {
+		row := d.From(0, p.Rows-1)
 		seen = append(seen, api.DifferSeen{Row: row, Value: values[row]})
 	}
-	if len(seen) > 0 && d.from(0, 9) == 0 {
-		seen[len(seen)-1].Value += d.from(1, 3)
+	if len(seen) > 0 && d.From(0, 9) == 0 {
+		seen[len(seen)-1].Value += d.From(1, 3)
 	}
 	return seen
 }

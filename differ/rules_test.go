@@ -7,6 +7,7 @@ import (
 
 	"ephemerist/api"
 	"ephemerist/differ"
+	"ephemerist/trial"
 )
 
 // P1.9: the values of two truths together are those of both truths added.
@@ -17,7 +18,7 @@ func TestTruthsAdded(t *testing.T) {
 		var two, truth []int
 		for _, n := range one {
 			// towards 0, so that both together are within the bounds of a plan
-			m := d.from(min(-n, 0), max(-n, 0))
+			m := d.From(min(-n, 0), max(-n, 0))
 			two, truth = append(two, m), append(truth, n+m)
 			q.Starts, both.Starts = append(q.Starts, span(m, m)), append(both.Starts, span(n+m, n+m))
 		}
@@ -36,9 +37,9 @@ func TestTruthsAdded(t *testing.T) {
 func TestNarrowerStart(t *testing.T) {
 	plans(t, func(t *testing.T, d *dice, p api.DifferPlan) {
 		q := plan(p.Rows, p.Guard, slices.Clone(p.Starts)...)
-		s := &q.Starts[d.from(0, len(q.Starts)-1)]
-		s.Low = d.from(s.Low, s.High)
-		s.High = d.from(s.Low, s.High)
+		s := &q.Starts[d.From(0, len(q.Starts)-1)]
+		s.Low = d.From(s.Low, s.High)
+		s.High = d.From(s.Low, s.High)
 		for _, f := range []func(api.DifferPlan) ([]api.Span, api.Errno){differ.Rows, differ.Printed} {
 			wide, _ := f(p)
 			narrow, e := f(q)
@@ -54,7 +55,7 @@ func TestNarrowerStart(t *testing.T) {
 // P1.9: with fewer rows the first ones are the same.
 func TestFewerRows(t *testing.T) {
 	plans(t, func(t *testing.T, d *dice, p api.DifferPlan) {
-		q := plan(d.from(1, p.Rows), p.Guard, p.Starts...)
+		q := plan(d.From(1, p.Rows), p.Guard, p.Starts...)
 		truth := d.truth(p)
 		long, _ := differ.Table(p, truth)
 		short, e := differ.Table(q, truth)
@@ -140,7 +141,7 @@ func TestEmptyLists(t *testing.T) {
 	}
 	for _, e := range []api.Errno{
 		differ.Check(api.DifferPlan{Starts: []api.Span{}, Rows: 1}),
-		second(differ.Table(planA(), []int{})), second(differ.Climb([]int{}, 1)), second(differ.Joins(planA(), [][]int{}, 1)),
+		trial.Error(differ.Table(planA(), []int{})), trial.Error(differ.Climb([]int{}, 1)), trial.Error(differ.Joins(planA(), [][]int{}, 1)),
 	} {
 		if e != api.ErrArg {
 			t.Error(e)
@@ -148,34 +149,32 @@ func TestEmptyLists(t *testing.T) {
 	}
 }
 
-func second[T any](_ T, e api.Errno) api.Errno { return e }
-
 // P0.12: no arguments make a function panic, and whatever comes with an error is zero.
 func TestAnyArguments(t *testing.T) {
-	d := &dice{state: 5}
+	d := &dice{trial.Dice{State: 5}}
 	odd := list(-1<<63, 1<<63-1, -1000000001, 1000000001, -100000, 100000, 99999, -99999, -1, 0, 1, 2, 3, 5, 7, 12, 13)
-	number := func() int { return odd[d.from(0, len(odd)-1)] }
+	number := func() int { return odd[d.From(0, len(odd)-1)] }
 	numbers := func() []int {
 		var out []int
-		for range d.from(0, 5) {
+		for range d.From(0, 5) {
 			out = append(out, number())
 		}
 		return out
 	}
 	for range 20000 {
 		p := api.DifferPlan{Rows: number(), Guard: number()}
-		for range d.from(0, 5) {
+		for range d.From(0, 5) {
 			p.Starts = append(p.Starts, span(number(), number()))
 		}
-		if d.from(0, 1) == 0 {
+		if d.From(0, 1) == 0 {
 			p = d.plan()
 		}
 		var firsts [][]int
-		for range d.from(0, 5) {
+		for range d.From(0, 5) {
 			firsts = append(firsts, numbers())
 		}
 		var seen []api.DifferSeen
-		for range d.from(0, 7) {
+		for range d.From(0, 7) {
 			seen = append(seen, api.DifferSeen{Row: number(), Value: number()})
 		}
 		anyCalls(t, p, numbers(), firsts, seen, number())

@@ -1,27 +1,17 @@
 package differ_test
 
 import (
-	"fmt"
 	"strings"
 	"testing"
 
 	"ephemerist/api"
 	"ephemerist/differ"
+	"ephemerist/trial"
 )
 
 const oneText = "plan 1 0\nstart 5 5\nend 116\n"
 
-// checked returns lines with the line end that belongs to them.
-func checked(lines ...string) string {
-	sum, text := 0, ""
-	for i, l := range lines {
-		text += l + "\n"
-		for k := range []byte(l) {
-			sum += int(l[k]) * (k + 1) * (i + 1)
-		}
-	}
-	return text + fmt.Sprintf("end %03d\n", sum%227)
-}
+func checked(lines ...string) string { return trial.Checked(227, lines...) }
 
 // P1.8
 func TestPrint(t *testing.T) {
@@ -133,34 +123,24 @@ func readBack(t *testing.T, _ *dice, p api.DifferPlan) {
 func TestChangedDigit(t *testing.T) {
 	plans(t, func(t *testing.T, d *dice, p api.DifferPlan) {
 		text, _ := differ.Print(p)
-		for i := range len(text) {
-			if text[i] < '0' || text[i] > '9' {
-				continue
-			}
-			for digit := byte('0'); digit <= '9'; digit++ {
-				changed := text[:i] + string(digit) + text[i+1:]
-				if _, e := differ.Read(changed); digit != text[i] && e != api.ErrText {
-					t.Fatalf("%q %q %v", text, changed, e)
-				}
+		for _, changed := range trial.OtherDigits(text) {
+			if _, e := differ.Read(changed); e != api.ErrText {
+				t.Fatalf("%q %q %v", text, changed, e)
 			}
 		}
 	})
 }
 
-// P0.12: any other byte, or one that is taken away, leaves a text that is read or refused, and what is read is what is written again.
+// P0.12: with any other byte, or without one, a text is read or refused, and what is read is what is written again.
 func TestReadAnyBytes(t *testing.T) {
 	text, _ := differ.Print(planA())
-	for i := range len(text) {
-		for b := range 256 {
-			for _, changed := range []string{text[:i] + string([]byte{byte(b)}) + text[i+1:], text[:i] + string([]byte{byte(b)}) + text[i:], text[:i] + text[i+1:]} {
-				p, e := differ.Read(changed)
-				if e != api.OK {
-					continue
-				}
-				if again, f := differ.Print(p); f != api.OK || again != changed {
-					t.Fatalf("%q %q %v", changed, again, f)
-				}
-			}
+	for _, changed := range trial.OtherBytes(text) {
+		p, e := differ.Read(changed)
+		if e != api.OK {
+			continue
+		}
+		if again, f := differ.Print(p); f != api.OK || again != changed {
+			t.Fatalf("%q %q %v", changed, again, f)
 		}
 	}
 }

@@ -33,7 +33,7 @@ func Values(s api.HandsSheet, row int) ([]int, api.Errno) {
 	if e != api.OK {
 		return nil, e
 	}
-	if t.many[row] == allNumbers {
+	if t.isOpen(row) {
 		return nil, api.ErrOpen
 	}
 	return t.numbers(row), api.OK
@@ -94,39 +94,37 @@ func solve(s api.HandsSheet) (sheetWithRights, api.Errno) {
 	}
 	t := sheetWithRights{HandsSheet: s, possible: map[place]bool{}, many: make([]int, rowsOf(s))}
 	for right := range rights(s) {
-		t.rights = append(t.rights, right)
-		for row, n := range right {
-			t.allow(row, n)
-		}
+		t.add(right)
 	}
 	if len(t.rights) == 0 {
 		return sheetWithRights{}, api.ErrNone
 	}
 	for row := range rowsOf(s) {
 		if t.can(row, another(named(s, row))) {
-			t.open(row)
+			t.many[row] = allNumbers
 		}
 	}
 	return t, api.OK
 }
 
-// allow makes a number possible in a row.
-func (t sheetWithRights) allow(row, number int) {
-	if !t.can(row, number) {
-		t.possible[place{row, number}] = true
-		t.many[row]++
+func (t *sheetWithRights) add(right []int) {
+	t.rights = append(t.rights, right)
+	for row, n := range right {
+		if !t.can(row, n) {
+			t.possible[place{row, n}] = true
+			t.many[row]++
+		}
 	}
 }
 
-// open makes all numbers possible in a row.
-func (t sheetWithRights) open(row int) {
-	for n := -api.HandsMost; n <= api.HandsMost; n++ {
-		t.allow(row, n)
-	}
-}
+func (t sheetWithRights) isOpen(row int) bool { return t.many[row] == allNumbers }
+
+func (t sheetWithRights) isSure(row int) bool { return t.many[row] == 1 }
 
 // can tells whether a row can have a number.
-func (t sheetWithRights) can(row, number int) bool { return t.possible[place{row, number}] }
+func (t sheetWithRights) can(row, number int) bool {
+	return t.isOpen(row) || t.possible[place{row, number}]
+}
 
 // numbers returns all numbers that a row can have.
 func (t sheetWithRights) numbers(row int) []int {
@@ -139,8 +137,7 @@ func (t sheetWithRights) numbers(row int) []int {
 	return numbers
 }
 
-func (t sheetWithRights) isSure(row int) bool { return t.many[row] == 1 }
-
+// sure returns all rows that are sure.
 func (t sheetWithRights) sure() []int {
 	var sure []int
 	for row := range t.many {

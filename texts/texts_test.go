@@ -1,0 +1,91 @@
+package texts_test
+
+import (
+	"slices"
+	"strings"
+	"testing"
+
+	"ephemerist/texts"
+	"ephemerist/trial"
+)
+
+// numbersLine is a line of a word and numbers.
+type numbersLine struct {
+	word    string
+	numbers []int
+}
+
+// Text returns the line as it is written.
+func (l numbersLine) Text() string { return texts.Numbers(l.word, l.numbers...) }
+
+func lineOf(parts []string) texts.Line {
+	if parts[0] == "plain" {
+		return numbersLine{parts[0], texts.Naturals(parts[1:], 2)}
+	}
+	return numbersLine{parts[0], texts.Integers(parts[1:], 3)}
+}
+
+func linesOf(lines []texts.Line) []texts.Line { return lines }
+
+func read(text string) ([]texts.Line, bool) { return texts.Read(text, 7, lineOf, linesOf) }
+
+// P0.11
+func TestWriteAndRead(t *testing.T) {
+	for i, x := range []struct {
+		lines []texts.Line
+		want  []string
+	}{
+		{nil, nil},
+		{trial.List[texts.Line](numbersLine{"a", nil}), list("a")},
+		{trial.List[texts.Line](numbersLine{"a", trial.List(0, -1, 999, -999)}, numbersLine{"plain", trial.List(0, 10, 99)}, numbersLine{"", trial.List(5)}), list("a 0 -1 999 -999", "plain 0 10 99", " 5")},
+	} {
+		text := texts.Write(x.lines, 7)
+		if text != trial.Checked(7, x.want...) {
+			t.Errorf("%d: %q", i, text)
+		}
+		got, is := read(text)
+		if !is || !slices.EqualFunc(got, x.lines, func(a, b texts.Line) bool { return a.Text() == b.Text() }) {
+			t.Error(i, got, is)
+		}
+	}
+}
+
+func list(lines ...string) []string { return trial.List(lines...) }
+
+func TestCheckHasThreeDigits(t *testing.T) {
+	for modulus, want := range map[int]string{1: "end 000\n", 10: "end 007\n", 100: "end 097\n", 1000: "end 097\n"} {
+		if got := texts.Write(trial.List[texts.Line](numbersLine{"a", nil}), modulus); got != "a\n"+want {
+			t.Errorf("%d: %q", modulus, got)
+		}
+	}
+}
+
+func TestNumbersThatAreNone(t *testing.T) {
+	for _, l := range list("a -0", "a 00", "a 01", "a -01", "a +1", "a --1", "a -", "a ", "a  1", "a 1 ", "a 1000", "a -1000", "a 1.0", "a 0x1", "a \u0661", "a \xff", "a 1\r", "plain -1", "plain 100", "plain 1 -1", "plain 00", "plain +1", "plain x") {
+		if got, is := read(trial.Checked(7, l)); is || got != nil {
+			t.Errorf("%q %v", l, got)
+		}
+	}
+}
+
+func TestNoText(t *testing.T) {
+	text := trial.Checked(7, "a 1", "plain 2")
+	if _, is := read(text); !is {
+		t.Fatal(text)
+	}
+	for _, no := range list("", "\n", "a 1\n", "end 000", "END 000\n", "end 0\n", "end 0000\n", "end 007\n", " end 000\n", text+"\n", text+text, "\n"+text, strings.TrimSuffix(text, "\n"), strings.Replace(text, "\n", "\r\n", 1), strings.Replace(text, "end ", "end  ", 1), strings.Replace(text, "end ", "end", 1)) {
+		if got, is := read(no); is || got != nil {
+			t.Errorf("%q %v", no, got)
+		}
+	}
+}
+
+func TestGiveUp(t *testing.T) {
+	never := func([]texts.Line) int {
+		texts.GiveUp()
+		return 5
+	}
+	if got, is := texts.Read("end 000\n", 7, lineOf, never); is || got != 0 {
+		t.Error(got, is)
+	}
+}
