@@ -8,6 +8,7 @@ import (
 	"slices"
 
 	"ephemerist/api"
+	"ephemerist/reckon"
 )
 
 // Check returns the error of a plan.
@@ -119,18 +120,18 @@ func add(state []int) {
 
 func isPlan(p api.DifferPlan) bool {
 	return isCount(p.Starts) && !slices.ContainsFunc(p.Starts, isNoStart) &&
-		within(p.Rows, 1, api.DifferRows) && within(p.Guard, 0, api.DifferGuard)
+		reckon.Within(p.Rows, 1, api.DifferRows) && reckon.Within(p.Guard, 0, api.DifferGuard)
 }
 
 // isCount tells whether a list has as many elements as a plan can have starts.
-func isCount[T any](list []T) bool { return within(len(list), 1, api.DifferStarts) }
+func isCount[T any](list []T) bool { return reckon.Within(len(list), 1, api.DifferStarts) }
 
 func isNoStart(s api.Span) bool {
 	// Ends that are far out of range are sent away before the difference is
 	// taken, which could go round.
-	return !within(s.Low, -api.DifferMost, api.DifferMost) ||
-		!within(s.High, -api.DifferMost, api.DifferMost) ||
-		!within(s.High-s.Low, 0, api.DifferWide)
+	return !reckon.Within(s.Low, -api.DifferMost, api.DifferMost) ||
+		!reckon.Within(s.High, -api.DifferMost, api.DifferMost) ||
+		!reckon.Within(s.High-s.Low, 0, api.DifferWide)
 }
 
 // isTruth asks for a plan that is as defined.
@@ -139,7 +140,7 @@ func isTruth(p api.DifferPlan, truth []int) bool {
 		return false
 	}
 	for start, s := range p.Starts {
-		if !within(truth[start], s.Low, s.High) {
+		if !reckon.Within(truth[start], s.Low, s.High) {
 			return false
 		}
 	}
@@ -150,8 +151,6 @@ func isState(state []int) bool {
 	return isCount(state) && !slices.ContainsFunc(state, isFar)
 }
 
-func isFar(n int) bool { return !within(n, -api.DifferFar, api.DifferFar) }
+func isFar(n int) bool { return !reckon.Within(n, -api.DifferFar, api.DifferFar) }
 
-func isRow(p api.DifferPlan, row int) bool { return within(row, 0, p.Rows-1) }
-
-func within(n, low, high int) bool { return low <= n && n <= high }
+func isRow(p api.DifferPlan, row int) bool { return reckon.Within(row, 0, p.Rows-1) }

@@ -4,6 +4,7 @@ import (
 	"slices"
 
 	"ephemerist/api"
+	"ephemerist/reckon"
 )
 
 // Printed returns between which printed figures each row lies.
@@ -50,7 +51,7 @@ func Doubt(p api.DifferPlan) (row int, e api.Errno) {
 
 // Widest returns how great a start can be.
 func Widest(p api.DifferPlan, start int) (int, api.Errno) {
-	if !isPlan(p) || !within(start, 0, len(p.Starts)-1) {
+	if !isPlan(p) || !reckon.Within(start, 0, len(p.Starts)-1) {
 		return 0, api.ErrArg
 	}
 	low := p.Starts[start].Low
@@ -80,10 +81,10 @@ func Blame(p api.DifferPlan, row int) (int, api.Errno) {
 		widths[start] = (s.High - s.Low) * growth(len(p.Starts), start, row)
 		shares[start] = share{start, widths[start]}
 	}
-	if sum(widths...) == 0 {
+	if reckon.Sum(widths...) == 0 {
 		return 0, api.ErrNone
 	}
-	most := best(shares, func(a, b share) bool { return a.width > b.width })
+	most := reckon.Best(shares, func(a, b share) bool { return a.width > b.width })
 	return most.start, api.OK
 }
 
@@ -136,23 +137,4 @@ func growth(starts, start, row int) int {
 	truth := make([]int, starts)
 	truth[start] = 1
 	return down(truth, row)[0]
-}
-
-func sum(widths ...int) int {
-	total := 0
-	for _, w := range widths {
-		total += w
-	}
-	return total
-}
-
-// best returns the first thing than which none is better.
-func best[T any](things []T, better func(a, b T) bool) T {
-	var first T
-	for i, x := range things {
-		if i == 0 || better(x, first) {
-			first = x
-		}
-	}
-	return first
 }

@@ -5,6 +5,7 @@ import (
 	"slices"
 
 	"ephemerist/api"
+	"ephemerist/reckon"
 )
 
 // Agree returns how many truths agree with notes.
@@ -59,7 +60,7 @@ func Next(p api.DifferPlan, seen []api.DifferSeen) (int, int, api.Errno) {
 	if len(many) == 0 {
 		return 0, 0, api.ErrRule
 	}
-	next := best(rests, func(a, b rest) bool { return a.left < b.left })
+	next := reckon.Best(rests, func(a, b rest) bool { return a.left < b.left })
 	return next.row, next.left, api.OK
 }
 

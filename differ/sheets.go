@@ -4,11 +4,12 @@ import (
 	"slices"
 
 	"ephemerist/api"
+	"ephemerist/reckon"
 )
 
 // Cut returns the states with which sheets begin.
 func Cut(p api.DifferPlan, truth []int, size int) ([][]int, api.Errno) {
-	if !isPlan(p) || !isTruth(p, truth) || !within(size, 1, p.Rows) {
+	if !isPlan(p) || !isTruth(p, truth) || !reckon.Within(size, 1, p.Rows) {
 		return nil, api.ErrArg
 	}
 	firsts := make([][]int, sheets(p, size))
@@ -20,7 +21,7 @@ func Cut(p api.DifferPlan, truth []int, size int) ([][]int, api.Errno) {
 
 // Joins returns all sheets that do not join.
 func Joins(p api.DifferPlan, firsts [][]int, size int) ([]int, api.Errno) {
-	if !isPlan(p) || !within(size, 1, p.Rows) || !areFirsts(p, firsts, size) {
+	if !isPlan(p) || !reckon.Within(size, 1, p.Rows) || !areFirsts(p, firsts, size) {
 		return nil, api.ErrArg
 	}
 	var torn []int

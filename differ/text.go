@@ -19,17 +19,8 @@ func Print(p api.DifferPlan) (string, api.Errno) {
 
 // Read returns the plan of a text.
 func Read(text string) (api.DifferPlan, api.Errno) {
-	if len(text) > api.DifferText {
-		return api.DifferPlan{}, api.ErrLong
-	}
-	p, is := texts.Read(text, checkModulus, lineOf, planOf)
-	if !is {
-		return api.DifferPlan{}, api.ErrText
-	}
-	if !isPlan(p) {
-		return api.DifferPlan{}, api.ErrArg
-	}
-	return p, api.OK
+	reading := texts.Reading[api.DifferPlan]{Most: api.DifferText, Modulus: checkModulus, Line: lineOf, Whole: planOf, Is: isPlan}
+	return reading.Read(text)
 }
 
 // The words with which lines begin, in the order of the table words.

@@ -5,6 +5,7 @@ import (
 	"slices"
 
 	"ephemerist/api"
+	"ephemerist/reckon"
 )
 
 // Agrees reports whether a column can be the right one.
@@ -21,7 +22,8 @@ func First(s api.HandsSheet) ([]int, api.Errno) {
 	if e != api.OK {
 		return nil, e
 	}
-	return best(t.rights, slices.Compare), api.OK
+	before := func(a, b []int) bool { return slices.Compare(a, b) < 0 }
+	return reckon.Best(t.rights, before), api.OK
 }
 
 // Values returns all numbers that a row can have.
@@ -66,8 +68,8 @@ func Least(s api.HandsSheet) (int, api.Errno) {
 	if e != api.OK {
 		return 0, e
 	}
-	fewer := func(a, b []int) int { return t.together(a) - t.together(b) }
-	return t.together(best(t.rights, fewer)), api.OK
+	fewer := func(a, b []int) bool { return t.together(a) < t.together(b) }
+	return t.together(reckon.Best(t.rights, fewer)), api.OK
 }
 
 // allNumbers is how many numbers a row can have that is open.
@@ -155,26 +157,7 @@ func (t sheetWithRights) together(right []int) int {
 		made, _ := errorsOf(right, column)
 		many = append(many, len(made))
 	}
-	return sum(many...)
-}
-
-func sum(errors ...int) int {
-	total := 0
-	for _, n := range errors {
-		total += n
-	}
-	return total
-}
-
-// best returns the first of some things before which no other one comes.
-func best[T any](things []T, compare func(a, b T) int) T {
-	first := things[0]
-	for _, x := range things {
-		if compare(x, first) < 0 {
-			first = x
-		}
-	}
-	return first
+	return reckon.Sum(many...)
 }
 
 func agrees(s api.HandsSheet, right []int) bool {

@@ -23,17 +23,8 @@ func Print(s api.HandsSheet) (string, api.Errno) {
 
 // Read returns the sheet of a text.
 func Read(text string) (api.HandsSheet, api.Errno) {
-	if len(text) > api.HandsText {
-		return api.HandsSheet{}, api.ErrLong
-	}
-	s, is := texts.Read(text, checkModulus, lineOf, sheetOf)
-	if !is {
-		return api.HandsSheet{}, api.ErrText
-	}
-	if !isSheet(s) {
-		return api.HandsSheet{}, api.ErrArg
-	}
-	return s, api.OK
+	reading := texts.Reading[api.HandsSheet]{Most: api.HandsText, Modulus: checkModulus, Line: lineOf, Whole: sheetOf, Is: isSheet}
+	return reading.Read(text)
 }
 
 // The words with which lines begin, in the order of the table words.

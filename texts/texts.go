@@ -6,6 +6,8 @@ package texts
 import (
 	"strconv"
 	"strings"
+
+	"ephemerist/api"
 )
 
 // Line is a line of a text.
@@ -21,8 +23,7 @@ const (
 // noText is what a string that is no text gives up with.
 type noText struct{}
 
-// GiveUp leaves the call of Read that it is reached from: the string is no
-// text.
+// GiveUp leaves a Reading: the string is no text.
 func GiveUp() { panic(noText{}) }
 
 // Write returns the text of some lines, with the line of their CHECK after
@@ -36,19 +37,47 @@ func Write(lines []Line, modulus int) string {
 	return strings.Join(written, "\n") + "\n"
 }
 
-// Read returns what the lines of a text make, each of which is made of its
-// words; it returns false if the string is no text.
-func Read[T any](text string, modulus int, line func(words []string) Line, whole func(lines []Line) T) (made T, is bool) {
+// Reading is how texts of a layer are read.
+type Reading[T any] struct {
+	// Most is how many bytes a text has at most.
+	Most    int
+	Modulus int
+	// Line makes a line of its words, and Whole what is read of all lines;
+	// both give up if there is no such text.
+	Line  func(words []string) Line
+	Whole func(lines []Line) T
+	// Is tells whether what was read is as defined.
+	Is func(T) bool
+}
+
+// Read returns what a text tells.
+func (r Reading[T]) Read(text string) (T, api.Errno) {
+	var zero T
+	if len(text) > r.Most {
+		return zero, api.ErrLong
+	}
+	read, is := r.parse(text)
+	switch {
+	case !is:
+		return zero, api.ErrText
+	case !r.Is(read):
+		return zero, api.ErrArg
+	}
+	return read, api.OK
+}
+
+// parse returns what a text tells, or false if the string is no text.
+func (r Reading[T]) parse(text string) (read T, is bool) {
 	defer func() {
 		if _, no := recover().(noText); no {
 			is = false
 		}
 	}()
 	var lines []Line
-	for _, words := range wordsOf(text, modulus) {
-		lines = append(lines, line(words))
+	for _, words := range wordsOf(text, r.Modulus) {
+		lines = append(lines, r.Line(words))
 	}
-	return whole(lines), true
+	return r.Whole(lines), true
 }
 
 // wordsOf returns the words of all lines but the last one.

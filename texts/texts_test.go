@@ -5,6 +5,7 @@ import (
 	"strings"
 	"testing"
 
+	"ephemerist/api"
 	"ephemerist/texts"
 	"ephemerist/trial"
 )
@@ -27,7 +28,12 @@ func lineOf(parts []string) texts.Line {
 
 func linesOf(lines []texts.Line) []texts.Line { return lines }
 
-func read(text string) ([]texts.Line, bool) { return texts.Read(text, 7, lineOf, linesOf) }
+// areFew tells whether there are no more than three lines.
+func areFew(lines []texts.Line) bool { return len(lines) <= 3 }
+
+func reading() texts.Reading[[]texts.Line] {
+	return texts.Reading[[]texts.Line]{Most: 60, Modulus: 7, Line: lineOf, Whole: linesOf, Is: areFew}
+}
 
 // P0.11
 func TestWriteAndRead(t *testing.T) {
@@ -43,9 +49,9 @@ func TestWriteAndRead(t *testing.T) {
 		if text != trial.Checked(7, x.want...) {
 			t.Errorf("%d: %q", i, text)
 		}
-		got, is := read(text)
-		if !is || !slices.EqualFunc(got, x.lines, func(a, b texts.Line) bool { return a.Text() == b.Text() }) {
-			t.Error(i, got, is)
+		got, e := reading().Read(text)
+		if e != api.OK || !slices.EqualFunc(got, x.lines, func(a, b texts.Line) bool { return a.Text() == b.Text() }) {
+			t.Error(i, got, e)
 		}
 	}
 }
@@ -62,7 +68,7 @@ func TestCheckHasThreeDigits(t *testing.T) {
 
 func TestNumbersThatAreNone(t *testing.T) {
 	for _, l := range list("a -0", "a 00", "a 01", "a -01", "a +1", "a --1", "a -", "a ", "a  1", "a 1 ", "a 1000", "a -1000", "a 1.0", "a 0x1", "a \u0661", "a \xff", "a 1\r", "plain -1", "plain 100", "plain 1 -1", "plain 00", "plain +1", "plain x") {
-		if got, is := read(trial.Checked(7, l)); is || got != nil {
+		if got, e := reading().Read(trial.Checked(7, l)); e != api.ErrText || got != nil {
 			t.Errorf("%q %v", l, got)
 		}
 	}
@@ -70,22 +76,35 @@ func TestNumbersThatAreNone(t *testing.T) {
 
 func TestNoText(t *testing.T) {
 	text := trial.Checked(7, "a 1", "plain 2")
-	if _, is := read(text); !is {
+	if _, e := reading().Read(text); e != api.OK {
 		t.Fatal(text)
 	}
 	for _, no := range list("", "\n", "a 1\n", "end 000", "END 000\n", "end 0\n", "end 0000\n", "end 007\n", " end 000\n", text+"\n", text+text, "\n"+text, strings.TrimSuffix(text, "\n"), strings.Replace(text, "\n", "\r\n", 1), strings.Replace(text, "end ", "end  ", 1), strings.Replace(text, "end ", "end", 1)) {
-		if got, is := read(no); is || got != nil {
+		if got, e := reading().Read(no); e != api.ErrText || got != nil {
 			t.Errorf("%q %v", no, got)
 		}
 	}
 }
 
-func TestGiveUp(t *testing.T) {
-	never := func([]texts.Line) int {
-		texts.GiveUp()
-		return 5
+// R1: a text that is too long, one that is none, and one that tells nothing that is as defined.
+func TestReadErrors(t *testing.T) {
+	for text, want := range map[string]api.Errno{
+		strings.Repeat("x", 61): api.ErrLong, strings.Repeat("x", 60): api.ErrText,
+		trial.Checked(7, "a", "b", "c"): api.OK, trial.Checked(7, "a", "b", "c", "d"): api.ErrArg, trial.Checked(7, "a", "b", "c", "plain -1"): api.ErrText,
+	} {
+		if got, e := reading().Read(text); e != want || e != api.OK && got != nil {
+			t.Errorf("%q %v %v", text, got, e)
+		}
 	}
-	if got, is := texts.Read("end 000\n", 7, lineOf, never); is || got != 0 {
-		t.Error(got, is)
+}
+
+func TestGiveUp(t *testing.T) {
+	r := reading()
+	r.Whole = func(lines []texts.Line) []texts.Line {
+		texts.GiveUp()
+		return lines
+	}
+	if got, e := r.Read(trial.Checked(7, "a")); e != api.ErrText || got != nil {
+		t.Error(got, e)
 	}
 }
