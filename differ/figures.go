@@ -114,13 +114,7 @@ func figure(value, guard int) int {
 	for range guard {
 		unit *= 10
 	}
-	raised := value + unit/2
-	quotient := raised / unit
-	// Go rounds quotients towards 0.
-	if raised%unit < 0 {
-		quotient--
-	}
-	return quotient
+	return reckon.Quotient(value+unit/2, unit)
 }
 
 // withHigh returns a plan with another end of one start.

@@ -10,6 +10,17 @@ func Sum(numbers ...int) int {
 	return total
 }
 
+// Quotient returns a quotient, rounded down (R7), by a number that is more than
+// 0.
+func Quotient(n, by int) int {
+	quotient := n / by
+	// Go rounds quotients towards 0.
+	if n%by < 0 {
+		quotient--
+	}
+	return quotient
+}
+
 // Within tells whether a number is between two bounds, both included.
 func Within(n, low, high int) bool { return low <= n && n <= high }
 

@@ -15,6 +15,15 @@ func TestSum(t *testing.T) {
 	}
 }
 
+// R7: quotients are rounded down.
+func TestQuotient(t *testing.T) {
+	for _, x := range [][3]int{{7, 2, 3}, {6, 2, 3}, {1, 2, 0}, {0, 2, 0}, {-1, 2, -1}, {-2, 2, -1}, {-3, 2, -2}, {-7, 3, -3}, {-6, 3, -2}, {5, 1, 5}, {-5, 1, -5}, {5, 1000, 0}, {-5, 1000, -1}} {
+		if got := reckon.Quotient(x[0], x[1]); got != x[2] {
+			t.Error(x, got)
+		}
+	}
+}
+
 func TestWithin(t *testing.T) {
 	for n, want := range map[int]bool{-2: false, -1: true, 0: true, 3: true, 4: false} {
 		if got := reckon.Within(n, -1, 3); got != want {
