@@ -23,7 +23,8 @@ func Read(text string) (api.ColumnSheet, api.Errno) {
 	return reading.Read(text)
 }
 
-// The words with which lines begin, in the order of the table words.
+// The words with which lines begin, in the order of the table words and of the
+// parts of a text.
 const (
 	columnWord = iota
 	rowWord
@@ -46,11 +47,17 @@ func (l columnLine) Text() string {
 	return texts.Numbers(words[columnWord], l.order, l.smooth.Low, l.smooth.High)
 }
 
+// Part returns which part of the text the line belongs to.
+func (columnLine) Part() int { return columnWord }
+
 // rowLine is the value of a row.
 type rowLine int
 
 // Text returns the line as it is written.
 func (l rowLine) Text() string { return texts.Numbers(words[rowWord], int(l)) }
+
+// Part returns which part of the text the line belongs to.
+func (rowLine) Part() int { return rowWord }
 
 // lineOf returns the line of some words.
 func lineOf(parts []string) texts.Line {
@@ -67,21 +74,13 @@ func lineOf(parts []string) texts.Line {
 
 // sheetOf returns the sheet that lines tell, whether or not it is as defined.
 func sheetOf(lines []texts.Line) api.ColumnSheet {
-	if len(lines) == 0 {
-		texts.GiveUp()
-	}
 	var s api.ColumnSheet
-	for i, l := range lines {
-		first := false
+	for _, l := range lines {
 		switch x := l.(type) {
 		case columnLine:
-			first = true
 			s.Order, s.Smooth = x.order, x.smooth
 		case rowLine:
 			s.Values = append(s.Values, int(x))
-		}
-		if first != (i == 0) {
-			texts.GiveUp()
 		}
 	}
 	return s

@@ -23,7 +23,8 @@ func Read(text string) (api.DifferPlan, api.Errno) {
 	return reading.Read(text)
 }
 
-// The words with which lines begin, in the order of the table words.
+// The words with which lines begin, in the order of the table words and of the
+// parts of a text.
 const (
 	planWord = iota
 	startWord
@@ -44,10 +45,16 @@ type planLine struct {
 // Text returns the line as it is written.
 func (l planLine) Text() string { return texts.Numbers(words[planWord], l.rows, l.guard) }
 
+// Part returns which part of the text the line belongs to.
+func (planLine) Part() int { return planWord }
+
 type startLine struct{ api.Span }
 
 // Text returns the line as it is written.
 func (l startLine) Text() string { return texts.Numbers(words[startWord], l.Low, l.High) }
+
+// Part returns which part of the text the line belongs to.
+func (startLine) Part() int { return startWord }
 
 // lineOf returns the line of some words.
 func lineOf(parts []string) texts.Line {
@@ -67,21 +74,13 @@ func lineOf(parts []string) texts.Line {
 
 // planOf returns the plan that lines tell, whether or not it is as defined.
 func planOf(lines []texts.Line) api.DifferPlan {
-	if len(lines) == 0 {
-		texts.GiveUp()
-	}
 	var p api.DifferPlan
-	for i, l := range lines {
-		first := false
+	for _, l := range lines {
 		switch x := l.(type) {
 		case planLine:
-			first = true
 			p.Rows, p.Guard = x.rows, x.guard
 		case startLine:
 			p.Starts = append(p.Starts, x.Span)
-		}
-		if first != (i == 0) {
-			texts.GiveUp()
 		}
 	}
 	return p

@@ -27,7 +27,8 @@ func Read(text string) (api.HandsSheet, api.Errno) {
 	return reading.Read(text)
 }
 
-// The words with which lines begin, in the order of the table words.
+// The words with which lines begin, in the order of the table words and of the
+// parts of a text.
 const (
 	handsWord = iota
 	rowWord
@@ -46,11 +47,17 @@ type handsLine []int
 // Text returns the line as it is written.
 func (l handsLine) Text() string { return texts.Numbers(words[handsWord], l...) }
 
+// Part returns which part of the text the line belongs to.
+func (handsLine) Part() int { return handsWord }
+
 // rowLine is the numbers of all hands in a row.
 type rowLine []int
 
 // Text returns the line as it is written.
 func (l rowLine) Text() string { return texts.Numbers(words[rowWord], l...) }
+
+// Part returns which part of the text the line belongs to.
+func (rowLine) Part() int { return rowWord }
 
 // lineOf returns the line of some words.
 func lineOf(parts []string) texts.Line {
@@ -67,11 +74,9 @@ func lineOf(parts []string) texts.Line {
 // sheetOf returns the sheet that lines tell, whether or not it is as defined.
 func sheetOf(lines []texts.Line) api.HandsSheet {
 	var s api.HandsSheet
-	for i, l := range lines {
-		first := false
+	for _, l := range lines {
 		switch x := l.(type) {
 		case handsLine:
-			first = true
 			s.Errors, s.Columns = x, make([][]int, len(x))
 		case rowLine:
 			if len(x) != len(s.Columns) {
@@ -80,9 +85,6 @@ func sheetOf(lines []texts.Line) api.HandsSheet {
 			for hand, n := range x {
 				s.Columns[hand] = append(s.Columns[hand], n)
 			}
-		}
-		if first != (i == 0) {
-			texts.GiveUp()
 		}
 	}
 	if len(s.Columns) == 0 {

@@ -1,6 +1,6 @@
 // Package texts has what the texts of all layers have in common: lines of
-// words with a single blank between two, decimal numbers, and a last line with
-// a CHECK of the lines before it.
+// words with a single blank between two, in the order of their kinds, decimal
+// numbers, and a last line with a CHECK of the lines before it.
 package texts
 
 import (
@@ -13,6 +13,9 @@ import (
 // Line is a line of a text.
 type Line interface {
 	Text() string
+	// Part returns which part of a text the line belongs to. The part 0 is
+	// the first line alone, and no line comes before one of a lesser part.
+	Part() int
 }
 
 const (
@@ -77,7 +80,23 @@ func (r Reading[T]) parse(text string) (read T, is bool) {
 	for _, words := range wordsOf(text, r.Modulus) {
 		lines = append(lines, r.Line(words))
 	}
+	mustBeInOrder(lines)
 	return r.Whole(lines), true
+}
+
+// mustBeInOrder gives up if lines do not stand where their parts do.
+func mustBeInOrder(lines []Line) {
+	if len(lines) == 0 {
+		GiveUp()
+	}
+	last := 0
+	for i, l := range lines {
+		part := l.Part()
+		if part < last || (part == 0) != (i == 0) {
+			GiveUp()
+		}
+		last = part
+	}
 }
 
 // wordsOf returns the words of all lines but the last one.

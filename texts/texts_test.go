@@ -19,6 +19,17 @@ type numbersLine struct {
 // Text returns the line as it is written.
 func (l numbersLine) Text() string { return texts.Numbers(l.word, l.numbers...) }
 
+// Part returns 0 for a, 2 for plain, and 1 for any other word.
+func (l numbersLine) Part() int {
+	switch l.word {
+	case "a":
+		return 0
+	case "plain":
+		return 2
+	}
+	return 1
+}
+
 func lineOf(parts []string) texts.Line {
 	if parts[0] == "plain" {
 		return numbersLine{parts[0], texts.Naturals(parts[1:], 2)}
@@ -41,9 +52,8 @@ func TestWriteAndRead(t *testing.T) {
 		lines []texts.Line
 		want  []string
 	}{
-		{nil, nil},
 		{trial.List[texts.Line](numbersLine{"a", nil}), list("a")},
-		{trial.List[texts.Line](numbersLine{"a", trial.List(0, -1, 999, -999)}, numbersLine{"plain", trial.List(0, 10, 99)}, numbersLine{"", trial.List(5)}), list("a 0 -1 999 -999", "plain 0 10 99", " 5")},
+		{trial.List[texts.Line](numbersLine{"a", trial.List(0, -1, 999, -999)}, numbersLine{"", trial.List(5)}, numbersLine{"plain", trial.List(0, 10, 99)}), list("a 0 -1 999 -999", " 5", "plain 0 10 99")},
 	} {
 		text := texts.Write(x.lines, 7)
 		if text != trial.Checked(7, x.want...) {
@@ -58,6 +68,20 @@ func TestWriteAndRead(t *testing.T) {
 
 func list(lines ...string) []string { return trial.List(lines...) }
 
+// The first line alone is the part 0, and the parts are in order.
+func TestParts(t *testing.T) {
+	for _, lines := range [][]string{list("a"), list("a", "b"), list("a", "plain"), list("a", "b", "c"), list("a", "b", "plain"), list("a", "plain", "plain")} {
+		if got, e := reading().Read(trial.Checked(7, lines...)); e != api.OK || len(got) != len(lines) {
+			t.Error(lines, got, e)
+		}
+	}
+	for _, lines := range [][]string{nil, list("b"), list("plain"), list("b", "a"), list("a", "a"), list("b", "plain"), list("a", "b", "a"), list("a", "plain", "b"), list("plain", "a", "b")} {
+		if got, e := reading().Read(trial.Checked(7, lines...)); e != api.ErrText || got != nil {
+			t.Error(lines, got, e)
+		}
+	}
+}
+
 func TestCheckHasThreeDigits(t *testing.T) {
 	for modulus, want := range map[int]string{1: "end 000\n", 10: "end 007\n", 100: "end 097\n", 1000: "end 097\n"} {
 		if got := texts.Write(trial.List[texts.Line](numbersLine{"a", nil}), modulus); got != "a\n"+want {
@@ -67,8 +91,13 @@ func TestCheckHasThreeDigits(t *testing.T) {
 }
 
 func TestNumbersThatAreNone(t *testing.T) {
-	for _, l := range list("a -0", "a 00", "a 01", "a -01", "a +1", "a --1", "a -", "a ", "a  1", "a 1 ", "a 1000", "a -1000", "a 1.0", "a 0x1", "a \u0661", "a \xff", "a 1\r", "plain -1", "plain 100", "plain 1 -1", "plain 00", "plain +1", "plain x") {
+	for _, l := range list("a -0", "a 00", "a 01", "a -01", "a +1", "a --1", "a -", "a ", "a  1", "a 1 ", "a 1000", "a -1000", "a 1.0", "a 0x1", "a \u0661", "a \xff", "a 1\r") {
 		if got, e := reading().Read(trial.Checked(7, l)); e != api.ErrText || got != nil {
+			t.Errorf("%q %v", l, got)
+		}
+	}
+	for _, l := range list("plain -1", "plain 100", "plain 1 -1", "plain 00", "plain +1", "plain x") {
+		if got, e := reading().Read(trial.Checked(7, "a", l)); e != api.ErrText || got != nil {
 			t.Errorf("%q %v", l, got)
 		}
 	}
