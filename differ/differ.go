@@ -21,7 +21,7 @@ func Check(p api.DifferPlan) api.Errno {
 
 // Table returns the table in a truth.
 func Table(p api.DifferPlan, truth []int) ([]int, api.Errno) {
-	if !isPlan(p) || !isTruth(p, truth) {
+	if !isPlan(p) || !reckon.AreWithin(truth, p.Starts) {
 		return nil, api.ErrArg
 	}
 	return planWithTruth{p, truth}.table(), api.OK
@@ -29,7 +29,7 @@ func Table(p api.DifferPlan, truth []int) ([]int, api.Errno) {
 
 // State returns the state of a row.
 func State(p api.DifferPlan, truth []int, row int) ([]int, api.Errno) {
-	if !isPlan(p) || !isTruth(p, truth) || !isRow(p, row) {
+	if !isPlan(p) || !reckon.AreWithin(truth, p.Starts) || !isRow(p, row) {
 		return nil, api.ErrArg
 	}
 	return down(truth, row), api.OK
@@ -42,13 +42,8 @@ func Rows(p api.DifferPlan) ([]api.Span, api.Errno) {
 	}
 	// No row grows less when a start grows, so the ends of the starts
 	// make the ends of all rows.
-	ends := [2]func(bound) int{bound.least, bound.greatest}
 	var tables [2][]int
-	for i, end := range ends {
-		truth := make([]int, len(p.Starts))
-		for start, s := range p.Starts {
-			truth[start] = end(bound(s))
-		}
+	for i, truth := range reckon.Ends(p.Starts) {
 		tables[i] = planWithTruth{p, truth}.table()
 	}
 	spans := make([]api.Span, p.Rows)
@@ -93,13 +88,6 @@ func (t planWithTruth) table() []int {
 	return table
 }
 
-// bound is a span of which the ends are asked for.
-type bound api.Span
-
-func (b bound) least() int { return b.Low }
-
-func (b bound) greatest() int { return b.High }
-
 // down returns the state that is reached from a state after some rows.
 func down(state []int, rows int) []int {
 	now := slices.Clone(state)
@@ -126,26 +114,7 @@ func isPlan(p api.DifferPlan) bool {
 // isCount tells whether a list has as many elements as a plan can have starts.
 func isCount[T any](list []T) bool { return reckon.Within(len(list), 1, api.DifferStarts) }
 
-func isNoStart(s api.Span) bool {
-	// Ends that are far out of range are sent away before the difference is
-	// taken, which could go round.
-	return !reckon.Within(s.Low, -api.DifferMost, api.DifferMost) ||
-		!reckon.Within(s.High, -api.DifferMost, api.DifferMost) ||
-		!reckon.Within(s.High-s.Low, 0, api.DifferWide)
-}
-
-// isTruth asks for a plan that is as defined.
-func isTruth(p api.DifferPlan, truth []int) bool {
-	if len(truth) != len(p.Starts) {
-		return false
-	}
-	for start, s := range p.Starts {
-		if !reckon.Within(truth[start], s.Low, s.High) {
-			return false
-		}
-	}
-	return true
-}
+func isNoStart(s api.Span) bool { return !reckon.IsSpan(s, api.DifferMost, api.DifferWide) }
 
 func isState(state []int) bool {
 	return isCount(state) && !slices.ContainsFunc(state, isFar)

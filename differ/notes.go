@@ -85,7 +85,7 @@ func truths(p api.DifferPlan) iter.Seq[planWithTruth] {
 			if start == len(truth) {
 				return yield(planWithTruth{p, slices.Clone(truth)})
 			}
-			for n := p.Starts[start].Low; n <= p.Starts[start].High; n++ {
+			for n := range reckon.Numbers(p.Starts[start]) {
 				truth[start] = n
 				if !fill(start + 1) {
 					return false

@@ -9,7 +9,7 @@ import (
 
 // Cut returns the states with which sheets begin.
 func Cut(p api.DifferPlan, truth []int, size int) ([][]int, api.Errno) {
-	if !isPlan(p) || !isTruth(p, truth) || !reckon.Within(size, 1, p.Rows) {
+	if !isPlan(p) || !reckon.AreWithin(truth, p.Starts) || !reckon.Within(size, 1, p.Rows) {
 		return nil, api.ErrArg
 	}
 	firsts := make([][]int, sheets(p, size))

@@ -1,8 +1,10 @@
 package reckon_test
 
 import (
+	"slices"
 	"testing"
 
+	"ephemerist/api"
 	"ephemerist/reckon"
 	"ephemerist/trial"
 )
@@ -44,6 +46,74 @@ func TestBest(t *testing.T) {
 		}
 	}
 	if got := reckon.Best(trial.List(-1, -5), func(a, b int) bool { return a > b }); got != -1 {
+		t.Error(got)
+	}
+}
+
+func spans(ends ...int) []api.Span {
+	var all []api.Span
+	for i := 0; i < len(ends); i += 2 {
+		all = append(all, api.Span{Low: ends[i], High: ends[i+1]})
+	}
+	return all
+}
+
+func TestIsSpan(t *testing.T) {
+	const most, least = 1<<63 - 1, -1 << 63
+	for _, s := range spans(0, 0, -9, -9, 9, 9, 6, 9, -9, -6, -1, 2) {
+		if !reckon.IsSpan(s, 9, 3) {
+			t.Error(s)
+		}
+	}
+	for _, s := range spans(1, 0, 9, -9, 0, 4, -2, 2, 7, 10, 10, 10, -10, -7, -10, -10, least, most, most, least, most, most, least, least, 0, most, least, 0) {
+		if reckon.IsSpan(s, 9, 3) {
+			t.Error(s)
+		}
+	}
+}
+
+func TestAreWithin(t *testing.T) {
+	for i, x := range []struct {
+		numbers []int
+		spans   []api.Span
+		want    bool
+	}{
+		{nil, nil, true}, {trial.List(1, 5), spans(1, 2, 4, 5), true}, {trial.List(2, 4), spans(1, 2, 4, 5), true},
+		{trial.List(0, 4), spans(1, 2, 4, 5), false}, {trial.List(3, 4), spans(1, 2, 4, 5), false}, {trial.List(1, 6), spans(1, 2, 4, 5), false}, {trial.List(1, 3), spans(1, 2, 4, 5), false},
+		{nil, spans(1, 2), false}, {trial.List(1), nil, false}, {trial.List(1), spans(1, 2, 4, 5), false}, {trial.List(1, 4, 4), spans(1, 2, 4, 5), false},
+	} {
+		if got := reckon.AreWithin(x.numbers, x.spans); got != x.want {
+			t.Error(i, got)
+		}
+	}
+}
+
+func TestNumbers(t *testing.T) {
+	for i, x := range []struct {
+		span api.Span
+		want []int
+	}{{api.Span{Low: -1, High: 2}, trial.List(-1, 0, 1, 2)}, {api.Span{Low: 7, High: 7}, trial.List(7)}, {api.Span{Low: 1, High: 0}, nil}} {
+		if got := slices.Collect(reckon.Numbers(x.span)); !slices.Equal(got, x.want) {
+			t.Error(i, got)
+		}
+	}
+	for n := range reckon.Numbers(api.Span{Low: 1, High: 9}) {
+		if n == 3 {
+			break
+		}
+		if n > 3 {
+			t.Error("it goes on", n)
+		}
+	}
+}
+
+func TestEnds(t *testing.T) {
+	all := spans(1, 2, -4, 5, 7, 7)
+	got := reckon.Ends(all)
+	if !slices.Equal(got[0], trial.List(1, -4, 7)) || !slices.Equal(got[1], trial.List(2, 5, 7)) || !slices.Equal(all, spans(1, 2, -4, 5, 7, 7)) {
+		t.Error(got, all)
+	}
+	if got := reckon.Ends(nil); len(got[0]) != 0 || len(got[1]) != 0 {
 		t.Error(got)
 	}
 }

@@ -1,7 +1,6 @@
 package round
 
 import (
-	"iter"
 	"slices"
 
 	"ephemerist/api"
@@ -137,15 +136,6 @@ func (g guarded) units(n int) int { return division{n, g.Unit}.by(g.Rule) }
 // when they are rounded, which makes no greater number less.
 func (g guarded) rounded(bounds api.Span) api.Span {
 	return api.Span{Low: g.units(bounds.Low), High: g.units(bounds.High)}
-}
-
-// exact goes through the exact numbers of a row with some bounds, in increasing
-// order.
-func exact(bounds api.Span) iter.Seq[int] {
-	return func(yield func(int) bool) {
-		for n := bounds.Low; n <= bounds.High && yield(n); n++ {
-		}
-	}
 }
 
 func isSheet(s api.RoundSheet) bool {

@@ -10,8 +10,7 @@ import (
 	"ephemerist/trial"
 )
 
-// This file has a second way to each result: numbers of units are gone through
-// until one fits a rule, and all truths are written out.
+// This file has a second way to each result: all truths are written out.
 
 const (
 	down = api.RoundDown
@@ -63,31 +62,6 @@ func withRows(s api.RoundSheet, rows []int) api.RoundSheet {
 	return s
 }
 
-func distance(a, b int) int { return max(a-b, b-a) }
-
-// fits tells whether so many units are a value, rounded.
-func fits(units, value, unit int, rule api.RoundRule) bool {
-	far := distance(units*unit, value)
-	switch rule {
-	case down:
-		return far < unit && units*unit <= value
-	case up:
-		return far < unit && units*unit >= value
-	case near:
-		return 2*far < unit || 2*far == unit && units*unit > value
-	}
-	return 2*far < unit || 2*far == unit && units&1 == 0
-}
-
-// unitsOf returns a value, rounded.
-func unitsOf(value, unit int, rule api.RoundRule) int {
-	units := value/unit - 2
-	for !fits(units, value, unit, rule) {
-		units++
-	}
-	return units
-}
-
 // truth is exact numbers with their figures and their total.
 type truth struct {
 	exact   []int
@@ -122,9 +96,9 @@ func truthsOf(s api.RoundSheet, guard int) []truth {
 		x, sum := truth{exact: exact}, 0
 		for _, n := range exact {
 			sum += n
-			x.figures = append(x.figures, unitsOf(n, s.Unit, s.Rule))
+			x.figures = append(x.figures, trial.Units(n, s.Unit, s.Rule))
 		}
-		x.total = unitsOf(sum, s.Unit, s.Rule)
+		x.total = trial.Units(sum, s.Unit, s.Rule)
 		truths = append(truths, x)
 	}
 	return truths

@@ -59,7 +59,7 @@ func TestToFits(t *testing.T) {
 			before := least
 			for value := -4*unit - 1; value <= 4*unit+1; value++ {
 				got, e := round.To(value, unit, rule)
-				if e != api.OK || got != unitsOf(value, unit, rule) || got < before {
+				if e != api.OK || got != trial.Units(value, unit, rule) || got < before {
 					t.Fatal(value, unit, rule, got, e, before)
 				}
 				before = got
@@ -79,7 +79,7 @@ func TestToGreat(t *testing.T) {
 		}
 		for _, rule := range trial.List(down, up, near, even) {
 			got, e := round.To(value, unit, rule)
-			if e != api.OK || got != unitsOf(value, unit, rule) {
+			if e != api.OK || got != trial.Units(value, unit, rule) {
 				t.Fatal(value, unit, rule, got, e)
 			}
 			if rest := value - got*unit; rule == down && (rest < 0 || rest >= unit) {

@@ -88,7 +88,7 @@ func hasHalf(s api.RoundSheet, guard int) bool {
 		for _, n := range x.exact {
 			sum += n
 		}
-		if slices.ContainsFunc(append(list(sum), x.exact...), func(n int) bool { return 2*distance(n, 0)%(2*s.Unit) == s.Unit }) {
+		if slices.ContainsFunc(append(list(sum), x.exact...), func(n int) bool { return 2*trial.Distance(n, 0)%(2*s.Unit) == s.Unit }) {
 			return true
 		}
 	}
@@ -148,39 +148,16 @@ func results(s api.RoundSheet, figures []int) ([][]int, [][]api.Span, string) {
 	return numbers, bounds, text + fmt.Sprintln(round.Need(s, 0)) + fmt.Sprintln(round.Guards(s)) + fmt.Sprintln(round.Total(s, 0)) + fmt.Sprintln(round.Adds(s, 0)) + fmt.Sprintln(round.Differs(s, 0)) + fmt.Sprintln(round.First(s, 0)) + fmt.Sprintln(round.Word(s, 0, 0, 1))
 }
 
-// withRoom returns a list with room behind it, where something could be written.
-func withRoom(n ...int) []int { return append(n, 5)[:len(n)] }
-
-// isUntouched tells whether a list with room is as it was.
-func isUntouched(now []int, was ...int) bool { return slices.Equal(now[:len(now)+1], append(was, 5)) }
-
 // R4 and R8: arguments are not changed, results share no memory, and equal calls have equal results.
 func TestMemory(t *testing.T) {
-	s := sheet(10, near, withRoom(4, 1), withRoom(13, 26, 1)...)
-	figures := withRoom(1, 3, 0)
+	s := sheet(10, near, trial.WithRoom(4, 1), trial.WithRoom(13, 26, 1)...)
+	figures := trial.WithRoom(1, 3, 0)
 	numbers, bounds, text := results(s, figures)
 	first := fmt.Sprint(numbers, bounds, text)
-	for i := range numbers {
-		before := fmt.Sprint(numbers[:i], numbers[i+1:], bounds)
-		for k := range numbers[i] {
-			numbers[i][k] += 5
-		}
-		_ = append(numbers[i], 7)
-		if fmt.Sprint(numbers[:i], numbers[i+1:], bounds) != before {
-			t.Error("results share memory", i)
-		}
+	if trial.Share(numbers, func(n *int) { *n += 5 }) || trial.Share(bounds, func(b *api.Span) { b.Low += 5 }) {
+		t.Error("results share memory")
 	}
-	for i := range bounds {
-		before := fmt.Sprint(bounds[:i], bounds[i+1:])
-		for k := range bounds[i] {
-			bounds[i][k].Low += 5
-		}
-		_ = append(bounds[i], span(7, 7))
-		if fmt.Sprint(bounds[:i], bounds[i+1:]) != before {
-			t.Error("results share memory", i)
-		}
-	}
-	if !isUntouched(s.Errs, 4, 1) || !isUntouched(s.Rows, 13, 26, 1) || !isUntouched(figures, 1, 3, 0) {
+	if !trial.IsUntouched(s.Errs, 4, 1) || !trial.IsUntouched(s.Rows, 13, 26, 1) || !trial.IsUntouched(figures, 1, 3, 0) {
 		t.Error("an argument was changed", s, figures)
 	}
 	numbers, bounds, text = results(s, figures)

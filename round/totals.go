@@ -96,7 +96,7 @@ func (g guarded) sums(from int) map[int]api.Span {
 // withRow returns the sums that there are with one row more.
 func (g guarded) withRow(sums map[int]api.Span, bounds api.Span) map[int]api.Span {
 	more := map[int]api.Span{}
-	for n := range exact(bounds) {
+	for n := range reckon.Numbers(bounds) {
 		figure := g.units(n)
 		for sum, figures := range sums {
 			figures.Low, figures.High = figures.Low+figure, figures.High+figure
@@ -153,7 +153,7 @@ func (g guarded) firstFailure() (truth []int, is bool) {
 		case len(begin) == len(bounds):
 			panic(failure{begin})
 		}
-		for n := range exact(bounds[len(begin)]) {
+		for n := range reckon.Numbers(bounds[len(begin)]) {
 			search(append(begin, n))
 		}
 	}
@@ -190,7 +190,7 @@ func (g guarded) behind(figures []int, total int) ([]api.Span, bool) {
 // bounds that are rounded to a figure, or false if there is none.
 func (g guarded) roundedTo(figure int, bounds api.Span) (api.Span, bool) {
 	var numbers []int
-	for n := range exact(bounds) {
+	for n := range reckon.Numbers(bounds) {
 		if g.units(n) == figure {
 			numbers = append(numbers, n)
 		}

@@ -3,6 +3,7 @@
 package trial
 
 import (
+	"slices"
 	"strconv"
 
 	"ephemerist/api"
@@ -25,6 +26,35 @@ func List[T any](things ...T) []T { return things }
 
 // Error returns the error of a call with one other result.
 func Error[T any](_ T, e api.Errno) api.Errno { return e }
+
+// WithRoom returns a list with room behind it, where something could be written.
+func WithRoom(n ...int) []int { return append(n, 5)[:len(n)] }
+
+// IsUntouched tells whether a list with room is as it was.
+func IsUntouched(now []int, was ...int) bool { return slices.Equal(now[:len(now)+1], append(was, 5)) }
+
+// Share tells whether some lists share memory, so that one is not as it was when
+// another one is changed, or something is written behind it.
+func Share[T comparable](lists [][]T, change func(*T)) bool {
+	for i := range lists {
+		var before [][]T
+		for _, l := range lists {
+			before = append(before, slices.Clone(l))
+		}
+		for k := range lists[i] {
+			change(&lists[i][k])
+		}
+		var more T
+		change(&more)
+		_ = append(lists[i], more)
+		for k := range lists {
+			if k != i && !slices.Equal(lists[k], before[k]) {
+				return true
+			}
+		}
+	}
+	return false
+}
 
 // Checked returns the text of some lines with the line end that belongs to them.
 func Checked(modulus int, lines ...string) string {
