@@ -35,24 +35,6 @@ func TestPrint(t *testing.T) {
 	}
 }
 
-// spoiltNumbers returns lines with a word that do not have just so many numbers.
-func spoiltNumbers(word string, many int) []string {
-	with := func(numbers ...string) string { return strings.Join(append(trial.List(word), numbers...), " ") }
-	right := strings.Fields(strings.Repeat("1 ", many))
-	line := with(right...)
-	out := trial.List(line+" 1", " "+line, line+" ", line+"x", line+"\r", strings.ToUpper(line), word+"s"+line[len(word):], word[1:]+line[len(word):], "x"+line, line[len(word):])
-	for at := range right {
-		rest := append(append([]string{}, right[:at]...), right[at+1:]...)
-		out = append(out, with(rest...))
-		for _, number := range trial.List("", "-", "-0", "-1", "+0", "+1", "00", "01", "100", "001", "18446744073709551616", "0.0", "0x0", "x", "1\t", "0\x00", "\u0660", "\xff", "1e1", "1_0") {
-			numbers := append([]string{}, right...)
-			numbers[at] = number
-			out = append(out, with(numbers...))
-		}
-	}
-	return out
-}
-
 // P6.7
 func TestReadForm(t *testing.T) {
 	give, computer, table, sheet := lines()[0], lines()[1], lines()[2], lines()[3]
@@ -60,10 +42,10 @@ func TestReadForm(t *testing.T) {
 		// not in order, or without the first line, or with it once more
 		checked(computer, table, sheet), checked(computer), checked(computer, give), checked(table), checked(sheet), checked(give, give), checked(give, computer, table, sheet, give), checked(give, give, computer, table, sheet), checked(give, computer, give, table, sheet), checked(give, table, computer, sheet), checked(give, computer, sheet, table), checked(give, sheet, table), checked(give, sheet, computer), checked(give, table, computer), checked(give, computer, table, computer, sheet), checked(give, computer, table, sheet, table), checked(give, computer, table, sheet, computer), checked(give, computer, table, sheet, sheet, table),
 	)
-	wrong = append(wrong, texts().WithLine(lines(), 0, spoiltNumbers("give", 0)...)...)
+	wrong = append(wrong, texts().WithLine(lines(), 0, trial.NotNaturals("give", 0, 2)...)...)
 	wrong = append(wrong, texts().WithLine(lines(), 0, "give 0", "gave", "book", "")...)
 	for at, word := range trial.List("computer", "table", "sheet") {
-		wrong = append(wrong, texts().WithLine(lines(), at+1, spoiltNumbers(word, trial.List(7, 1, 1)[at])...)...)
+		wrong = append(wrong, texts().WithLine(lines(), at+1, trial.NotNaturals(word, trial.List(7, 1, 1)[at], 2)...)...)
 		wrong = append(wrong, texts().WithLine(lines(), at+1, word, word+" ", word+"  0", word+" 1 1", "shoot 0", "end 0", "")...)
 	}
 	for _, text := range texts().Taken(wrong...) {

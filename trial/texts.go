@@ -105,3 +105,23 @@ func (x Texts[T]) Spoilt(lines ...string) []string {
 	}
 	return spoilt
 }
+
+// NotNaturals returns lines with a word that do not have just so many numbers
+// without a sign, of at most so many digits.
+func NotNaturals(word string, many, digits int) []string {
+	with := func(numbers ...string) string { return strings.Join(append(List(word), numbers...), " ") }
+	right := slices.Repeat(List("1"), many)
+	line := with(right...)
+	rest := line[len(word):]
+	out := List(line+" 1", " "+line, line+" ", line+"x", line+"\r", strings.ToUpper(line), word+"s"+rest, word[1:]+rest, "x"+line, rest)
+	long := strings.Repeat("1", digits+1)
+	for at := range right {
+		out = append(out, with(slices.Concat(right[:at], right[at+1:])...))
+		for _, number := range List("", "-", "-0", "-1", "+0", "+1", "00", "01", long, "0"+long[1:], "18446744073709551616", "0.0", "0x0", "x", "1\t", "0\x00", "\u0660", "\xff", "1e1", "1_0") {
+			numbers := slices.Clone(right)
+			numbers[at] = number
+			out = append(out, with(numbers...))
+		}
+	}
+	return out
+}
