@@ -109,15 +109,26 @@ func (x Texts[T]) Spoilt(lines ...string) []string {
 // NotNaturals returns lines with a word that do not have just so many numbers
 // without a sign, of at most so many digits.
 func NotNaturals(word string, many, digits int) []string {
+	return NotNumbers(word, many, 0, digits)
+}
+
+// NotNumbers returns lines with a word that do not have just so many numbers
+// without a sign, and then so many that can have one, of at most so many digits.
+func NotNumbers(word string, naturals, integers, digits int) []string {
 	with := func(numbers ...string) string { return strings.Join(append(List(word), numbers...), " ") }
-	right := slices.Repeat(List("1"), many)
+	right := slices.Repeat(List("1"), naturals+integers)
 	line := with(right...)
 	rest := line[len(word):]
 	out := List(line+" 1", " "+line, line+" ", line+"x", line+"\r", strings.ToUpper(line), word+"s"+rest, word[1:]+rest, "x"+line, rest)
 	long := strings.Repeat("1", digits+1)
+	wrong := List("", "-", "-0", "+0", "+1", "00", "01", "-01", "--1", "1-", "-"+long, long, "0"+long[1:], "18446744073709551616", "0.0", "0x0", "x", "1\t", "0\x00", "\u0660", "\xff", "1e1", "1_0")
 	for at := range right {
 		out = append(out, with(slices.Concat(right[:at], right[at+1:])...))
-		for _, number := range List("", "-", "-0", "-1", "+0", "+1", "00", "01", long, "0"+long[1:], "18446744073709551616", "0.0", "0x0", "x", "1\t", "0\x00", "\u0660", "\xff", "1e1", "1_0") {
+		signed := List("-1", "-"+long[1:])
+		if at >= naturals {
+			signed = nil
+		}
+		for _, number := range slices.Concat(wrong, signed) {
 			numbers := slices.Clone(right)
 			numbers[at] = number
 			out = append(out, with(numbers...))
