@@ -26,7 +26,7 @@ const (
 // noText is what a string that is no text gives up with.
 type noText struct{}
 
-// GiveUp leaves a Reading: the string is no text.
+// GiveUp leaves a Reading, or an Attempt: the string is no text.
 func GiveUp() { panic(noText{}) }
 
 // Write returns the text of some lines, with the line of their CHECK after
@@ -70,18 +70,25 @@ func (r Reading[T]) Read(text string) (T, api.Errno) {
 }
 
 // parse returns what a text tells, or false if the string is no text.
-func (r Reading[T]) parse(text string) (read T, is bool) {
+func (r Reading[T]) parse(text string) (T, bool) {
+	return Attempt(func() T {
+		var lines []Line
+		for _, words := range wordsOf(text, r.Modulus) {
+			lines = append(lines, r.Line(words))
+		}
+		mustBeInOrder(lines)
+		return r.Whole(lines)
+	})
+}
+
+// Attempt returns what is read, or false if reading it gives up.
+func Attempt[T any](read func() T) (thing T, is bool) {
 	defer func() {
 		if _, no := recover().(noText); no {
 			is = false
 		}
 	}()
-	var lines []Line
-	for _, words := range wordsOf(text, r.Modulus) {
-		lines = append(lines, r.Line(words))
-	}
-	mustBeInOrder(lines)
-	return r.Whole(lines), true
+	return read(), true
 }
 
 // mustBeInOrder gives up if lines do not stand where their parts do.
