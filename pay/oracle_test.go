@@ -24,13 +24,7 @@ func list(n ...int) []int { return trial.List(n...) }
 
 func span(low, high int) api.Span { return api.Span{Low: low, High: high} }
 
-func spans(ends ...int) []api.Span {
-	var all []api.Span
-	for pair := range slices.Chunk(ends, 2) {
-		all = append(all, span(pair[0], pair[1]))
-	}
-	return all
-}
+func spans(ends ...int) []api.Span { return trial.Spans(ends...) }
 
 func money(pounds, shillings, pence, farthings int) api.PayMoney {
 	return api.PayMoney{Pounds: pounds, Shillings: shillings, Pence: pence, Farthings: farthings}

@@ -50,13 +50,7 @@ func TestBest(t *testing.T) {
 	}
 }
 
-func spans(ends ...int) []api.Span {
-	var all []api.Span
-	for i := 0; i < len(ends); i += 2 {
-		all = append(all, api.Span{Low: ends[i], High: ends[i+1]})
-	}
-	return all
-}
+func spans(ends ...int) []api.Span { return trial.Spans(ends...) }
 
 func TestIsSpan(t *testing.T) {
 	const most, least = 1<<63 - 1, -1 << 63

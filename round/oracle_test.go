@@ -29,14 +29,7 @@ func list(n ...int) []int { return trial.List(n...) }
 
 func span(low, high int) api.Span { return api.Span{Low: low, High: high} }
 
-// spans returns spans of their ends.
-func spans(n ...int) []api.Span {
-	var out []api.Span
-	for i := 0; i < len(n); i += 2 {
-		out = append(out, span(n[i], n[i+1]))
-	}
-	return out
-}
+func spans(ends ...int) []api.Span { return trial.Spans(ends...) }
 
 func sheet(unit int, rule api.RoundRule, errs []int, rows ...int) api.RoundSheet {
 	return api.RoundSheet{Unit: unit, Rule: rule, Errs: errs, Rows: rows}

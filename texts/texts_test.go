@@ -137,3 +137,15 @@ func TestGiveUp(t *testing.T) {
 		t.Error(got, e)
 	}
 }
+
+func TestAttempt(t *testing.T) {
+	numbers := func(words ...string) func() []int {
+		return func() []int { return texts.Integers(words, 2) }
+	}
+	if got, is := texts.Attempt(numbers("-7", "12")); !is || !slices.Equal(got, trial.List(-7, 12)) {
+		t.Error(got, is)
+	}
+	if got, is := texts.Attempt(numbers("-7", "123")); is || got != nil {
+		t.Error(got, is)
+	}
+}

@@ -24,6 +24,15 @@ func Of[T any](d *Dice, things []T) T { return things[d.From(0, len(things)-1)] 
 // List returns a list of its arguments.
 func List[T any](things ...T) []T { return things }
 
+// Spans returns spans with some ends, two for each one.
+func Spans(ends ...int) []api.Span {
+	var all []api.Span
+	for both := range slices.Chunk(ends, 2) {
+		all = append(all, api.Span{Low: both[0], High: both[1]})
+	}
+	return all
+}
+
 // Error returns the error of a call with one other result.
 func Error[T any](_ T, e api.Errno) api.Errno { return e }
 

@@ -1,6 +1,7 @@
 package trial_test
 
 import (
+	"slices"
 	"testing"
 
 	"ephemerist/api"
@@ -42,5 +43,11 @@ func TestUnits(t *testing.T) {
 				t.Error(value, rule, got)
 			}
 		}
+	}
+}
+
+func TestSpans(t *testing.T) {
+	if got := trial.Spans(1, 2, -3, -3); !slices.Equal(got, trial.List(api.Span{Low: 1, High: 2}, api.Span{Low: -3, High: -3})) || len(trial.Spans()) > 0 {
+		t.Error(got)
 	}
 }
